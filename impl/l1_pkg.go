@@ -23,7 +23,7 @@ const SumMod = 9973
 const pkgTextMax = 30
 
 // errNoWord is one error for all that is no word: who reads asks only whether it is one.
-var errNoWord = errors.New("no word of a package")
+var errNoWord = errors.New("no word of a text")
 
 // File is a file: where, and what is in it.
 type File struct {
