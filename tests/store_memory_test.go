@@ -94,16 +94,22 @@ func (r storeRooms) same(b storeRooms) bool {
 
 // roomyStoreCall is the same call with marked room behind all of its lists, and behind those of each package.
 func roomyStoreCall(c storeCall) (storeCall, storeRooms) {
-	rooms := storeRooms{}
+	list, rooms := roomyPkgs(c.store)
+	c.store = list
 	c.trust.Root.Keys, rooms.keys = roomyKeys(c.trust.Root.Keys)
 	c.trust.Index, rooms.metas = roomyIndex(c.trust.Index)
+	return c, rooms
+}
+
+// roomyPkgs are the same packages with marked room behind them, and behind the lists of each.
+func roomyPkgs(list []impl.Pkg) ([]impl.Pkg, storeRooms) {
+	rooms := storeRooms{}
 	marks := []impl.Pkg{{Name: 4, Ver: 5}, {Name: 1, Ver: 1, Files: []impl.File{{Path: 1, Data: 1}}}, {Name: 88, Ver: 88}}
-	for _, p := range append(clonePkgs(c.store), marks...) {
+	for _, p := range append(clonePkgs(list), marks...) {
 		q, files, deps := roomy(p)
 		rooms.pkgs, rooms.files, rooms.deps = append(rooms.pkgs, q), append(rooms.files, files), append(rooms.deps, deps)
 	}
-	c.store = rooms.pkgs[:len(c.store)]
-	return c, rooms
+	return rooms.pkgs[:len(list)], rooms
 }
 
 // storeCalls are calls of which some add, some trim, and some have arguments that are not ok.
