@@ -175,7 +175,7 @@ func TestDiskAnswersOutliveTheirArguments(t *testing.T) {
 	}
 }
 
-// memory is one list: how to write over it, and over its room, and what stands in it.
+// memory is one list: how to write over it, and over its room, and what stands in both.
 type memory struct {
 	write func()
 	read  func() string
@@ -190,7 +190,7 @@ func memoryOf[T any](list []T, mark T, show func(T) string) memory {
 		},
 		read: func() string {
 			out := ""
-			for _, x := range list {
+			for _, x := range list[:cap(list)] {
 				out += show(x) + " "
 			}
 			return out
@@ -215,22 +215,26 @@ func diskMemory(d impl.Disk) []memory {
 	return slices.Concat([]memory{memoryOf(d.Files, 77, show)}, pkgsMemory(d.Db), pkgsMemory(d.Jour))
 }
 
-// checkDiskApart writes over one list of an answer at a time, and asks that all others are as they were.
-func checkDiskApart(t *testing.T, ask func() impl.Disk) {
+// checkApart writes over one list of an answer at a time, and asks that all others are as they were.
+func checkApart(t *testing.T, ask func() []memory) {
 	t.Helper()
-	for i := range diskMemory(ask()) {
-		d := ask()
-		all, were := diskMemory(d), []string{}
+	for i := range ask() {
+		all, were := ask(), []string{}
 		for _, m := range all {
 			were = append(were, m.read())
 		}
 		all[i].write()
 		for j, m := range all {
 			if j != i && m.read() != were[j] {
-				t.Errorf("lists %d and %d of an answer share memory: %v", i, j, d)
+				t.Errorf("lists %d and %d of an answer share memory: %v", i, j, were)
 			}
 		}
 	}
+}
+
+func checkDiskApart(t *testing.T, ask func() impl.Disk) {
+	t.Helper()
+	checkApart(t, func() []memory { return diskMemory(ask()) })
 }
 
 func checkStepApart(t *testing.T, c diskCall) {
